@@ -1,0 +1,1 @@
+"""Closurize: programs of functions turned into code of procedures, and a machine that has it."""

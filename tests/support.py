@@ -1,0 +1,118 @@
+"""Programs and code written by their parts, and calls asked one at a time."""
+
+from closurize.machine import answers
+
+REFUSED = [-1]
+
+
+def num(value):
+    return [0] + list(value.to_bytes(4, "little"))
+
+
+def var(k):
+    return [1, k]
+
+
+def fun(body):
+    return [2] + body
+
+
+def rec(body):
+    return [3] + body
+
+
+def call(f, a):
+    return [4] + f + a
+
+
+def add(a, b):
+    return [5] + a + b
+
+
+def sub(a, b):
+    return [6] + a + b
+
+
+def less(a, b):
+    return [7] + a + b
+
+
+def cond(a, b, c):
+    return [8] + a + b + c
+
+
+def let(a, b):
+    return [9] + a + b
+
+
+ARG = [1, 0]
+SELF = [3, 0]
+
+
+def taken(k):
+    return [2, k]
+
+
+def kept(k):
+    return [10, k]
+
+
+def made(p, *names):
+    return [11, p, len(names)] + [byte for name in names for byte in name]
+
+
+def code(main, *procedures):
+    """Each procedure: (how many values it takes along, its expression)."""
+    data = [len(procedures)] + main
+    for count, expression in procedures:
+        data += [count] + expression
+    return data
+
+
+def wrapped(times, head, inner):
+    return head * times + inner
+
+
+def many(joined, parts):
+    """All the parts within as shallow a tree as can be of a node of two parts."""
+    if len(parts) == 1:
+        return parts[0]
+    half = len(parts) // 2
+    return [joined] + many(joined, parts[:half]) + many(joined, parts[half:])
+
+
+def row(numbers):
+    return [len(numbers)] + numbers
+
+
+def single(calls):
+    """The answer to a list of one call."""
+    told = answers(calls)
+    assert told[0] == len(told) - 1, told
+    return told[1:]
+
+
+def check(data):
+    return single([1] + row(data))
+
+
+def compiled(data):
+    return single([2] + row(data))
+
+
+def takes_of(data):
+    return single([3] + row(data))
+
+
+def mean(allowed, data, numbers=()):
+    return single([4, allowed] + row(data) + row(list(numbers)))
+
+
+def load(data):
+    return single([5] + row(data))
+
+
+def procs_after_load(data):
+    told = answers([5] + row(data) + [6])
+    assert told[0] == 1 and told[2] == 1 and len(told) == 4, told
+    return [told[1], told[3]]
