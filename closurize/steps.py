@@ -3,7 +3,7 @@
 from closurize.program import FUNCTION, SELF_FUNCTION, VARIABLE, level_of
 from closurize.reading import CHOICE, KEEPING, NUMBER
 
-# A step is a tuple: what is done, and a number for it. 4 to 7 are the bytes of programs,
+# A step is a tuple: what is done, and a number for it. 4 to 7 (less) are the bytes of programs,
 # so that these can be laid down as they are.
 PUSH = 0
 LOOK_UP = 1
@@ -11,7 +11,6 @@ MAKE = 2
 CALL = 4
 SUM = 5
 DIFFERENCE = 6
-LESS = 7
 UNLESS = 8
 JUMP = 9
 KEEP = 10

@@ -88,8 +88,9 @@ class Worker:
         known = running.known
         place = running.place
         while place < len(steps):
-            kind = steps[place][0]
-            value = steps[place][1]
+            step = steps[place]
+            kind = step[0]
+            value = step[1]
             place = place + 1
             if kind == LOOK_UP:
                 stack.append(known[value])
@@ -143,12 +144,13 @@ def number_in(value):
 
 
 def reckon(kind, first, second):
-    number_in(first)
-    number_in(second)
+    if not isinstance(first, int) or not isinstance(second, int):
+        raise Fault(WRONG_KIND)
     if kind == SUM:
         return (first + second) % MODULUS
     if kind == DIFFERENCE:
         return (first - second) % MODULUS
+    # What is left is whether the first is less.
     return 1 if signed(first) < signed(second) else 0
 
 
