@@ -1,1 +1,1 @@
-"""Closurize: programs of functions turned into code of procedures, and a machine that has it."""
+"""Closurize: programs of functions turned into code of procedures, and a machine that runs it."""

@@ -1,10 +1,12 @@
-"""A machine that has code, and the calls on it, one behind another in a list of whole numbers."""
+"""A machine that has code and runs it, and the calls on it, one behind another in a list of whole numbers."""
 
+from closurize.code_steps import code_blocks
 from closurize.meaning import ends_of
 from closurize.procedures import read_code
 from closurize.program import read_program
 from closurize.reading import BadBytes
 from closurize.translator import code_of, takes_of
+from closurize.worker import FUNCTION_OUT, NUMBER_OUT, Worker
 
 CHECK = 1
 COMPILE = 2
@@ -12,10 +14,28 @@ TAKES_OF = 3
 MEAN = 4
 LOAD = 5
 PROCS = 6
+TAKES = 7
+RUN = 8
+APPLY = 9
+RESULT = 10
+CALLS = 11
+CELLS = 12
 
 
 class NoCode(Exception):
     """The machine has no code that could be asked."""
+
+
+class NoSuchProcedure(Exception):
+    """The machine's code has no procedure of this number."""
+
+
+class NothingOut(Exception):
+    """Nothing was run, or a fault ended what ran last."""
+
+
+class NoFunctionOut(Exception):
+    """What is out can't be called."""
 
 
 class NoSuchCall(Exception):
@@ -45,19 +65,60 @@ class Line:
 
 
 class Machine:
-    """The code that was loaded last, or None."""
+    """The code that was loaded last and what works it out, or None."""
 
     def __init__(self):
         self.code = None
+        self.worker = None
 
     def load(self, data):
-        self.code = read_code(data)
+        code = read_code(data)
+        self.code = code
+        self.worker = Worker(code_blocks(code))
         return [0]
 
-    def procs(self):
+    def must_have_code(self):
         if self.code is None:
             raise NoCode()
+
+    def must_have_out(self):
+        self.must_have_code()
+        if self.worker.out is None:
+            raise NothingOut()
+
+    def procs(self):
+        self.must_have_code()
         return [len(self.code.takes) - 1]
+
+    def takes_along(self, procedure):
+        self.must_have_code()
+        if procedure + 1 >= len(self.code.takes):
+            raise NoSuchProcedure()
+        return [self.code.takes[procedure + 1]]
+
+    def run(self, allowed):
+        self.must_have_code()
+        return [self.worker.run_main(allowed)]
+
+    def apply(self, number, allowed):
+        self.must_have_out()
+        if isinstance(self.worker.out, int):
+            raise NoFunctionOut()
+        return [self.worker.call_out(number, allowed)]
+
+    def result(self):
+        self.must_have_out()
+        if isinstance(self.worker.out, int):
+            return [NUMBER_OUT, self.worker.out]
+        return [FUNCTION_OUT]
+
+    def calls_made(self):
+        self.must_have_out()
+        return [self.worker.calls]
+
+    def cells_taken(self):
+        self.must_have_out()
+        return [self.worker.cells]
 
 
 def answers(calls):
@@ -74,9 +135,7 @@ def answers(calls):
 def answer_or_refuse(machine, line):
     try:
         return answer_call(machine, line)
-    except BadBytes:
-        return [-1]
-    except NoCode:
+    except (BadBytes, NoCode, NoSuchProcedure, NothingOut, NoFunctionOut):
         return [-1]
 
 
@@ -93,10 +152,27 @@ def answer_call(machine, line):
         allowed = line.take()
         data = line.take_row()
         return meant(allowed, data, line.take_row())
+    return answer_machine_call(machine, call, line)
+
+
+def answer_machine_call(machine, call, line):
     if call == LOAD:
         return machine.load(line.take_row())
     if call == PROCS:
         return machine.procs()
+    if call == TAKES:
+        return machine.takes_along(line.take())
+    if call == RUN:
+        return machine.run(line.take())
+    if call == APPLY:
+        number = line.take()
+        return machine.apply(number, line.take())
+    if call == RESULT:
+        return machine.result()
+    if call == CALLS:
+        return machine.calls_made()
+    if call == CELLS:
+        return machine.cells_taken()
     raise NoSuchCall()
 
 

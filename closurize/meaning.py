@@ -1,11 +1,11 @@
 """What a program means: its end, and the ends that are seen when what came out is called."""
 
-from closurize.steps import blocks_of
+from closurize.program_steps import program_blocks
 from closurize.worker import FUNCTION_OUT, NUMBER_OUT, Worker
 
 
 def ends_of(program, allowed, numbers):
-    worker = Worker(blocks_of(program))
+    worker = Worker(program_blocks(program))
     outcome = worker.run_main(allowed)
     ends = [end_seen(worker, outcome)]
     place = 0

@@ -1,13 +1,13 @@
-"""A program's nodes laid out as steps, so that its value can be worked out by a loop."""
+"""Nodes laid out as steps, so that their value can be worked out by a loop."""
 
-from closurize.program import FUNCTION, SELF_FUNCTION, VARIABLE, level_of
-from closurize.reading import CHOICE, KEEPING, NUMBER
+from closurize.reading import CHOICE, KEEPING
 
-# A step is a tuple: what is done, and a number for it. 4 to 7 (less) are the bytes of programs,
+# A step is a tuple: what is done, and a number for it. 4 to 7 (less) are the bytes of programs and of code,
 # so that these can be laid down as they are.
 PUSH = 0
 LOOK_UP = 1
 MAKE = 2
+TAKE_ALONG = 3
 CALL = 4
 SUM = 5
 DIFFERENCE = 6
@@ -35,25 +35,17 @@ class Unfinished:
         self.jump = 0
 
 
-def blocks_of(program):
-    rows = [[] for body in program.bodies]
+def laid_out(nodes, own_steps, bodies):
+    """Of each of so many bodies its steps; `own_steps` has of each node those that aren't its parts'."""
+    rows = [[] for body in range(bodies)]
     unfinished = []
-    for node in program.nodes:
-        lay_node(node, rows[node.home])
+    for node, own in zip(nodes, own_steps):
+        rows[node.home].extend(own)
         if node.parts > 0:
             unfinished.append(Unfinished(node))
         else:
             finish_parts(unfinished, rows)
-    return [Block(row, body.own, 1 + len(body.taken)) for row, body in zip(rows, program.bodies)]
-
-
-def lay_node(node, row):
-    if node.kind == NUMBER:
-        row.append((PUSH, node.value))
-    elif node.kind == VARIABLE:
-        row.append((LOOK_UP, level_of(node)))
-    elif node.kind == FUNCTION or node.kind == SELF_FUNCTION:
-        row.append((MAKE, node.value))
+    return rows
 
 
 def finish_parts(unfinished, rows):

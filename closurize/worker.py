@@ -1,7 +1,7 @@
 """A worker goes through steps by a loop, counts calls and cells, and tells faults."""
 
 from closurize.reading import MAIN
-from closurize.steps import CALL, DIFFERENCE, DROP, JUMP, KEEP, LOOK_UP, MAKE, PUSH, SUM, UNLESS
+from closurize.steps import CALL, DIFFERENCE, DROP, JUMP, KEEP, LOOK_UP, MAKE, PUSH, SUM, TAKE_ALONG, UNLESS
 
 MOST_INSIDE = 128
 MOST_CELLS = 8192
@@ -24,7 +24,7 @@ class Fault(Exception):
 
 
 class Made:
-    """A function made: its block, and the values known where it stood, by their variables' levels."""
+    """A function made: its block, and the values that are known in it ahead of its own."""
 
     def __init__(self, block, known):
         self.block = block
@@ -100,7 +100,11 @@ class Worker:
                 running.place = place
                 return True
             elif kind == MAKE:
-                stack.append(self.make(self.blocks[value], known))
+                # What is kept here goes on changing, but not what the function knows.
+                stack.append(self.make(self.blocks[value], list(known)))
+            elif kind == TAKE_ALONG:
+                block = self.blocks[value]
+                stack.append(self.make(block, taken_off(stack, block.cells - 1)))
             elif kind == KEEP:
                 known.append(stack.pop())
             elif kind == DROP:
@@ -127,8 +131,14 @@ class Worker:
         if self.cells + block.cells > MOST_CELLS:
             raise Fault(NO_CELL_LEFT)
         self.cells = self.cells + block.cells
-        # What is kept here goes on changing, but not what the function knows.
-        return Made(block, list(known))
+        return Made(block, known)
+
+
+def taken_off(stack, count):
+    taken = stack[len(stack) - count:]
+    for value in taken:
+        stack.pop()
+    return taken
 
 
 def known_inside(called, argument):

@@ -116,3 +116,64 @@ def procs_after_load(data):
     told = answers([5] + row(data) + [6])
     assert told[0] == 1 and told[2] == 1 and len(told) == 4, told
     return [told[1], told[3]]
+
+
+# Calls on a machine, one each; `ask` takes any number of them.
+
+PROCS = [6]
+RESULT = [10]
+CALLS = [11]
+CELLS = [12]
+LOOKS = RESULT + CALLS + CELLS
+NOTHING_OUT = [[-1], [-1], [-1]]
+
+
+def loading(data):
+    return [5] + row(data)
+
+
+def takes(p):
+    return [7, p]
+
+
+def run(allowed=2000):
+    return [8, allowed]
+
+
+def apply(x, allowed=2000):
+    return [9, x, allowed]
+
+
+def each(told):
+    """The answers in a list: one list for each call."""
+    found = []
+    place = 0
+    while place < len(told):
+        end = place + 1 + told[place]
+        assert told[place] > 0 and end <= len(told), told
+        found.append(told[place + 1:end])
+        place = end
+    return found
+
+
+def ask(*calls):
+    return each(answers([number for asked in calls for number in asked]))
+
+
+def after_load(data, *calls):
+    told = ask(loading(data), *calls)
+    assert told[0] == [0], told
+    return told[1:]
+
+
+def number_out(value, calls=0, cells=0):
+    """What run or apply, result, calls and cells tell when a number came out."""
+    return [[0], [0, value], [calls], [cells]]
+
+
+def function_out(calls, cells):
+    return [[1], [1], [calls], [cells]]
+
+
+def fault_told(fault):
+    return [[fault], [-1], [-1], [-1]]

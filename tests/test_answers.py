@@ -27,8 +27,50 @@ CALLS = [
     ([6], [2]),
     ([5] + row([9, 9, 9]), [-1]),
     ([6], [2]),
+    ([7, 0], [0]),
+    ([7, 1], [1]),
+    ([7, 2], [-1]),
+    ([7, 4294967295], [-1]),
+    ([10], [-1]),
+    ([11], [-1]),
+    ([12], [-1]),
+    ([9, 5, 2000], [-1]),
+    ([8, 0], [1]),
+    ([10], [1]),
+    ([11], [0]),
+    ([12], [1]),
+    ([9, 40, 1], [1]),
+    ([10], [1]),
+    ([11], [1]),
+    ([12], [3]),
+    ([5] + row([]), [-1]),
+    ([9, 4294967295, 2000], [0]),
+    ([10], [0, 39]),
+    ([11], [1]),
+    ([12], [3]),
+    ([9, 1, 1], [-1]),
+    ([10], [0, 39]),
+    ([8, 2000], [1]),
+    ([9, 0, 0], [3]),
+    ([10], [-1]),
+    ([11], [-1]),
+    ([12], [-1]),
+    ([8, 0], [1]),
+    ([1] + row(ADDER), [1]),
+    ([2] + row(num(1)), [6, 0, 0, 1, 0, 0, 0]),
+    ([3] + row(ADDER), [2, 0, 1]),
+    ([4, 0] + row(num(8)) + row([]), [1, 0, 8, 0, 0]),
+    ([12], [1]),
     ([5] + row(code(num(1))), [0]),
     ([6], [0]),
+    ([7, 0], [-1]),
+    ([10], [-1]),
+    ([11], [-1]),
+    ([12], [-1]),
+    ([8, 0], [0]),
+    ([10], [0, 1]),
+    ([11], [0]),
+    ([12], [0]),
 ]
 
 
@@ -43,6 +85,10 @@ class Frozen(list):
 
 
 class Lists(unittest.TestCase):
+    def test_all_twelve_are_among_60_calls(self):
+        self.assertEqual(len(CALLS), 60)
+        self.assertEqual({given[0] for given, _ in CALLS}, set(range(1, 13)))
+
     def test_each_call_has_its_answer_behind_how_many_numbers_it_has(self):
         asked = []
         expected = []
@@ -58,7 +104,9 @@ class Lists(unittest.TestCase):
             self.assertIs(type(number), int)
 
     def test_60_calls(self):
-        self.assertEqual(answers([6] * 60), [1, -1] * 60)
+        for call_number in (6, 10, 11, 12):
+            self.assertEqual(answers([call_number] * 60), [1, -1] * 60)
+        self.assertEqual(answers([5] + row(MADE) + [8, 9] * 59), [1, 0] + [1, 1] * 59)
         self.assertEqual(answers(([1] + row(ADDER)) * 60), [1, 1] * 60)
 
     def test_30000_numbers(self):
@@ -94,8 +142,11 @@ class Nothing(unittest.TestCase):
         self.assertEqual(answers(list(asked)), first)
 
     def test_nothing_is_kept_from_one_time_to_the_next(self):
-        answers([5] + row(MADE))
-        self.assertEqual(answers([6]), [1, -1])
+        answers([5] + row(MADE) + [8, 0])
+        for asked in ([6], [7, 0], [8, 0], [9, 1, 1], [10], [11], [12]):
+            self.assertEqual(answers(asked), [1, -1])
+        answers([5] + row(MADE) + [8, 0, 9, 4, 1])
+        self.assertEqual(answers([5] + row(MADE) + [10, 12, 8, 0, 12]), [1, 0, 1, -1, 1, -1, 1, 1, 1, 1])
 
     def test_what_was_given_back_may_be_changed(self):
         first = answers([2] + row(ADDER))
@@ -106,7 +157,8 @@ class Nothing(unittest.TestCase):
     def test_it_prints_and_imports_nothing(self):
         script = (
             "import sys; from closurize.machine import answers; before = set(sys.modules);"
-            "answers([1, 0, 6, 4, 5, 3, 2, 1, 0, 2, 1, 1]); assert set(sys.modules) == before")
+            "answers([1, 0, 6, 4, 5, 3, 2, 1, 0, 2, 1, 1, 5, 7, 1, 11, 0, 0, 0, 1, 0, 8, 0, 9, 1, 1, 10, 11, 12]);"
+            "assert set(sys.modules) == before")
         root = os.path.dirname(os.path.dirname(os.path.abspath(__file__)))
         done = subprocess.run([sys.executable, "-B", "-c", script], cwd=root, capture_output=True, text=True)
         self.assertEqual((done.returncode, done.stdout, done.stderr), (0, "", ""))
@@ -118,7 +170,10 @@ class Depth(unittest.TestCase):
         asked = [4, 2000] + row(call(deepest, num(127))) + row([])
         asked += [1] + row([2] * 1024) + [5] + row([0] + [9] * 8000)
         asked += [2] + row(let(num(1), [3] * 30 + var(60)))
+        again = ([5] + num(1)) * 60 + call([3, 0], [6, 1, 0] + num(1))
+        asked += [5] + row(code(made(0), (0, [8, 1, 0] + again + num(0)))) + [8, 0, 9, 127, 2000, 10]
         expected = answers(asked)
+        self.assertEqual(expected[-7:], [1, 1, 1, 0, 2, 0, 60 * 127])
 
         def further(left):
             return further(left - 1) if left else answers(asked)

@@ -190,7 +190,8 @@ class Forms(unittest.TestCase):
             if isinstance(node, ast.Try):
                 self.assertEqual(node.finalbody, [], line)
             if isinstance(node, ast.ExceptHandler):
-                self.assertIn(node.type.id, [c.name for c in classes()], line)
+                for taken in node.type.elts if isinstance(node.type, ast.Tuple) else [node.type]:
+                    self.assertIn(taken.id, [c.name for c in classes()], line)
             if isinstance(node, ast.Compare) and isinstance(node.ops[0], (ast.Is, ast.IsNot)):
                 self.assertIsInstance(node.comparators[0], ast.Constant, line)
             if isinstance(node, ast.ListComp):
